@@ -1,0 +1,1 @@
+"""Stintpurse: work round one purse, and what any company sees of it."""

@@ -1,0 +1,18 @@
+"""What all looks at anything share: whole numbers, and sameness to the last part."""
+
+
+def is_whole(thing):
+    """Whether thing is a whole number; True and False are none."""
+    return isinstance(thing, int) and not isinstance(thing, bool)
+
+
+def same(told, thing):
+    """Whether thing, anything, is just what was told."""
+    if isinstance(told, tuple):
+        return (
+            isinstance(thing, tuple)
+            and len(told) == len(thing)
+            and all([same(part, other) for part, other in zip(told, thing)])
+        )
+    # Python holds 1 and True to be equal, the document doesn't.
+    return is_whole(told) == is_whole(thing) and told == thing

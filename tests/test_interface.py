@@ -1,0 +1,33 @@
+"""The interface: names and arguments, each defined in the file under which it is listed."""
+
+import importlib
+import inspect
+import unittest
+
+FUNCTIONS = {
+    "pairs": {
+        "is_pair": ("thing",),
+        "is_row": ("thing",),
+        "behind": ("row", "purse"),
+        "whole": ("row",),
+        "joined": ("one", "other"),
+        "power": ("pair", "k"),
+        "turned_row": ("row",),
+        "heights": ("row",),
+        "dips": ("row",),
+    },
+}
+
+
+class Interface(unittest.TestCase):
+    def test_functions_stand_where_they_are_listed(self):
+        for file, functions in FUNCTIONS.items():
+            module = importlib.import_module(f"stintpurse.{file}")
+            for name, arguments in functions.items():
+                function = getattr(module, name)
+                self.assertEqual(function.__module__, f"stintpurse.{file}", name)
+                self.assertEqual(tuple(inspect.signature(function).parameters), arguments, name)
+
+
+if __name__ == "__main__":
+    unittest.main()
