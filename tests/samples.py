@@ -81,3 +81,31 @@ def asked_twice(test, function, *things):
     test.assertEqual(repr(function(*things)), repr(answer))
     test.assertTrue(is_told(answer), answer)
     return answer
+
+
+def chance_form(chance, longest=4, widest=3, by=1):
+    """A form with at most so many pairs up and down, and gaps of at most the widest, all times by."""
+    numbers = [by * chance.randint(0, widest)]
+    for _ in range(4 * longest):
+        numbers.append(numbers[-1] + by * chance.randint(1, widest))
+    up = tuple(zip(numbers[::2], numbers[1::2]))[:chance.randint(0, longest)]
+    shift = by * chance.randint(0, widest)
+    down = tuple((more + shift, less + shift) for less, more in zip(numbers[::2], numbers[1::2]))
+    down = down[:chance.randint(0, longest)][::-1]
+    if chance.randint(0, 1):
+        down = tuple((need + by, leave) for need, leave in down[:1]) + down[1:]
+    edge = max([0] + [pair[1] for pair in up[-1:]] + [pair[0] for pair in down[:1]])
+    return (up, edge + by * chance.randint(0, 2), down)
+
+
+def chance_forms(count, seed, longest=4, widest=3):
+    """Forms by chance, the same with each run, some of them with far numbers."""
+    chance = random.Random(seed)
+    return [chance_form(chance, longest, widest, FAR if number % 10 == 9 else 1) for number in range(count)]
+
+
+def long_form(many, shift=0):
+    """A form with so many pairs up and as many down: more than a row may have."""
+    up = tuple((4 * k + shift, 4 * k + shift + 3) for k in range(many))
+    down = tuple((4 * k + 2, 4 * k) for k in reversed(range(many)))
+    return (up, 4 * many + shift + 1, down)

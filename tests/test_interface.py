@@ -16,6 +16,34 @@ FUNCTIONS = {
         "heights": ("row",),
         "dips": ("row",),
     },
+    "stretches": {
+        "cut": ("row",),
+        "stretches_hold": ("row", "thing"),
+    },
+    "forms": {
+        "is_form": ("thing",),
+        "form_of": ("row",),
+        "form_row": ("form",),
+        "rise": ("form",),
+        "fall": ("form",),
+        "least_of": ("form",),
+        "turned_form": ("form",),
+    },
+    "merging": {
+        "then_form": ("forms",),
+        "beside_form": ("forms",),
+        "times_form": ("k", "form"),
+        "many_form": ("k", "form"),
+    },
+    "books": {
+        "bookfault": ("thing",),
+        "part_at": ("book", "place"),
+        "changed": ("book", "place", "part"),
+        "places_of": ("book",),
+        "acts_in": ("book",),
+        "gain_of": ("book",),
+        "turned_book": ("book",),
+    },
 }
 
 
