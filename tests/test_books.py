@@ -181,7 +181,8 @@ class Faults(unittest.TestCase):
         self.assertIsNone(bookfault(("beside", (("then", (ACT,) * 28), half))))
         self.assertEqual(bookfault(("beside", (("then", (ACT,) * 29), half))), ((), "size"))
         # behind all others, wherever they stand
-        self.assertEqual(bookfault(("then", (ACT,) * BOOKS + (nested(DEEP, ACT),))), ((BOOKS,) + (0,) * (DEEP - 1), "deep"))
+        too_deep = ("then", (ACT,) * BOOKS + (nested(DEEP, ACT),))
+        self.assertEqual(bookfault(too_deep), ((BOOKS,) + (0,) * (DEEP - 1), "deep"))
         self.assertEqual(bookfault(("then", (ACT,) * 2500)), ((), "size"))
 
     def test_anything(self):
