@@ -1,15 +1,13 @@
 """[15], [16], [17]: books."""
 
-import random
 import unittest
 
 from samples import asked_twice, is_told, odd_things, spoiled
+from worlds import ACT, NONE, chance_books, nested
 from stintpurse.bounds import BOOKS, COPIES, DEEP, MOST
 from stintpurse.books import acts_in, bookfault, changed, gain_of, part_at, places_of, turned_book
 from stintpurse.errors import BadBook, NoPlace
 
-ACT = ("act", 2, 5)
-NONE = ("then", ())
 BOOK = ("then", (
     ACT,
     ("beside", (("act", 4, 4), ("times", 3, ("beside", (("act", 1, 0), NONE))))),
@@ -18,29 +16,6 @@ BOOK = ("then", (
 PLACES = (
     (), (0,), (1,), (1, 0), (1, 1), (1, 1, 0), (1, 1, 0, 0), (1, 1, 0, 1), (2,), (2, 0), (2, 0, 0), (2, 0, 1),
 )
-
-
-def chance_book(chance, deep=4):
-    """A book by chance, small enough to be one."""
-    kind = chance.randint(0, 4) if deep else 0
-    if kind == 0:
-        return ("act", chance.randint(0, 9), chance.randint(0, 9))
-    if kind > 2:
-        return (("times", "many")[kind - 3], chance.choice((0, 1, 2, 3, 10 ** 3)), chance_book(chance, deep - 1))
-    parts = tuple(chance_book(chance, deep - 1) for _ in range(chance.randint(0, 2)))
-    return (("then", "beside")[kind - 1], parts)
-
-
-def chance_books(count, seed):
-    chance = random.Random(seed)
-    return [chance_book(chance) for _ in range(count)]
-
-
-def nested(many, inner, word="then"):
-    """inner with so many books round it."""
-    for _ in range(many):
-        inner = (word, (inner,))
-    return inner
 
 
 def plain_faults(thing, place=(), copies=1):

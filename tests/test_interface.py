@@ -44,6 +44,29 @@ FUNCTIONS = {
         "gain_of": ("book",),
         "turned_book": ("book",),
     },
+    "formed": {
+        "form": ("book",),
+        "least": ("book",),
+        "forms_paper": ("book",),
+        "paper_holds": ("book", "thing"),
+    },
+    "plans": {
+        "planfault": ("book", "thing"),
+        "pieces_of": ("book", "plan"),
+        "plan_least": ("book", "plan"),
+        "spelled": ("book", "plan"),
+    },
+    "best": {
+        "best_plan": ("book",),
+        "purse_paper": ("book",),
+        "purse_holds": ("book", "thing"),
+    },
+    "orders": {
+        "is_order": ("book", "thing"),
+        "row_of": ("book", "order"),
+        "order_least": ("book", "order"),
+        "moved": ("book", "order", "move"),
+    },
 }
 
 
