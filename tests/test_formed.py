@@ -173,7 +173,8 @@ class Papers(unittest.TestCase):
         for thing in odd_things():
             for book in (ACT, NONE, ("times", 3, ACT), ("beside", (ACT, DOWN))):
                 self.assertIs(asked_twice(self, paper_holds, book, thing), False)
-                self.assertIs(asked_twice(self, paper_holds, book, (form(book), thing)), book in (ACT, NONE) and thing == ())
+                fine = book in (ACT, NONE) and thing == ()
+                self.assertIs(asked_twice(self, paper_holds, book, (form(book), thing)), fine)
                 self.assertIs(asked_twice(self, paper_holds, book, (thing, ())), False)
 
 

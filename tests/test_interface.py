@@ -67,6 +67,26 @@ FUNCTIONS = {
         "order_least": ("book", "order"),
         "moved": ("book", "order", "move"),
     },
+    "leads": {
+        "leading": ("book", "order"),
+        "leading_holds": ("book", "order", "thing"),
+    },
+    "ease": {
+        "ease": ("book", "place"),
+        "tight": ("book",),
+    },
+    "companies": {
+        "put": ("company", "book"),
+        "least_beside": ("book", "pair"),
+        "least_ahead": ("book", "pair"),
+        "least_after": ("book", "pair"),
+    },
+    "partings": {
+        "parting": ("one", "other"),
+        "parting_holds": ("one", "other", "thing"),
+        "serves": ("one", "other"),
+        "outdone": ("one", "other"),
+    },
 }
 
 

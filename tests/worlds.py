@@ -2,8 +2,12 @@
 
 import random
 
+from stintpurse.formed import form
+from stintpurse.forms import form_row
+
 ACT = ("act", 2, 5)
 NONE = ("then", ())
+OPEN = ("open",)
 COPIED = ("times", "many")
 
 
@@ -94,6 +98,24 @@ def far_books():
             books.append((word, 3, ("then", (("many", far // 3, inner), ("times", far // 3, ("act", 5, 2)), gains))))
             books.append((word, 0, ("times", far, inner)))
     return books
+
+
+def chance_company(chance, deep=3):
+    """A company by chance."""
+    kind = chance.randint(0, 5) if deep else 0
+    if kind == 0:
+        return OPEN
+    inner = chance_company(chance, deep - 1)
+    if kind > 3:
+        return (COPIED[kind - 4], chance.choice((1, 1, 2)), inner)
+    parts = [chance_book(chance, 1, 2, (0, 1, 2), 6) for _ in range(chance.randint(0, 2))]
+    parts.insert(chance.randint(0, len(parts)), inner)
+    return (("then", "beside")[kind % 2], tuple(parts))
+
+
+def row_book(book):
+    """A book that is the row of another one's form, its pairs one behind another."""
+    return ("then", tuple(("act", need, leave) for need, leave in form_row(form(book))))
 
 
 def plain_spots(book, way=()):
