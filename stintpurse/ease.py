@@ -1,6 +1,6 @@
 """Ease: how much greater an act's need and leave may be until the book asks for a greater purse."""
 
-from stintpurse.books import is_copied, is_place, part_at, parts_of, places_of
+from stintpurse.books import is_copied, part_at, parts_of, places_of
 from stintpurse.errors import NoPlace
 from stintpurse.formed import form, form_with
 from stintpurse.forms import form_of, least_of
@@ -51,25 +51,16 @@ def greatest_borne(around):
     return borne
 
 
-def is_act_place(book, thing):
-    """Whether thing, anything, is the place of an act in the book."""
-    return is_place(book, thing) and part_at(book, thing)[0] == "act"
-
-
 def ease(book, place):
     """How much greater the act there may be, in all its copies, None where none is done."""
-    if not is_act_place(book, place):
+    if part_at(book, place)[0] != "act":
         raise NoPlace(place)
     around = Around(book, place)
     return greatest_borne(around) if around.is_done() else None
 
 
-def is_tight(book, place):
-    """Whether the act there is done, and may not be any greater."""
-    around = Around(book, place)
-    return around.is_done() and not around.bears(1)
-
-
 def tight(book):
     """The places, in preorder, of all acts whose ease is 0."""
-    return tuple([place for place in places_of(book) if is_act_place(book, place) and is_tight(book, place)])
+    acts = [place for place in places_of(book) if part_at(book, place)[0] == "act"]
+    # An act that is never done may be as great as one likes.
+    return tuple([place for place in acts if not Around(book, place).bears(1)])

@@ -115,7 +115,7 @@ class Papers(unittest.TestCase):
                 self.assertIs(asked_twice(self, purse_holds, book, bad), False, (book, bad))
 
     def test_anything(self):
-        for thing in odd_things():
+        for thing in odd_things() + [()]:
             for book in (ACT, NONE, ("times", 3, ACT)):
                 purse, plan, paper = purse_paper(book)
                 self.assertIs(asked_twice(self, purse_holds, book, thing), False)

@@ -54,7 +54,7 @@ class Putting(unittest.TestCase):
                 put(company, book)
 
     def test_no_companies(self):
-        for thing in odd_things():
+        for thing in odd_things() + [()]:
             self.refused(thing)
         for thing in (
             # no open place, two of them

@@ -170,7 +170,7 @@ class Papers(unittest.TestCase):
         self.assertIs(paper_holds(("then", (ACT, DOWN)), forms_paper(("beside", (DOWN, ACT)))), False)
 
     def test_anything(self):
-        for thing in odd_things():
+        for thing in odd_things() + [()]:
             for book in (ACT, NONE, ("times", 3, ACT), ("beside", (ACT, DOWN))):
                 self.assertIs(asked_twice(self, paper_holds, book, thing), False)
                 fine = book in (ACT, NONE) and thing == ()

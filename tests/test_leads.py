@@ -140,7 +140,7 @@ class Leading(unittest.TestCase):
         self.look(("times", SMALL, ACT), spots)
 
     def test_no_orders(self):
-        for thing in odd_things() + [BEST[:1], BEST + BEST[:1], list(BEST), ((True,), (0,)), ((0,), (2,))]:
+        for thing in odd_things() + [(), BEST[:1], BEST + BEST[:1], list(BEST), ((True,), (0,)), ((0,), (2,))]:
             with self.assertRaises(NoOrder):
                 leading(PAIR, thing)
             with self.assertRaises(NoOrder):
@@ -194,7 +194,7 @@ class Holds(unittest.TestCase):
                 self.assertIs(told, plain_holds(book, order, bad), (book, order, bad))
 
     def test_anything(self):
-        for thing in odd_things():
+        for thing in odd_things() + [()]:
             self.assertIs(asked_twice(self, leading_holds, PAIR, WORST, thing), False)
             for bad in ((thing,), (((0,), 1), thing), ((thing, 1),), (((0,), thing),), (((thing,), 1),)):
                 self.assertIs(leading_holds(PAIR, WORST, bad), plain_holds(PAIR, WORST, bad), bad)

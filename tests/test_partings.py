@@ -3,7 +3,7 @@
 import random
 import unittest
 
-from samples import asked_twice, odd_things, spoiled
+from samples import asked_twice, chance_form, odd_things, spoiled
 from worlds import (
     ACT, NONE, act_count, chance_act, chance_books, chance_company, far_books, plain_least, row_book, wide_books,
 )
@@ -164,6 +164,7 @@ class Holds(unittest.TestCase):
         self.assertIs(parting_holds(nothing, one, ((), 0, 1)), True)
         self.assertIs(parting_holds(nothing, one, ((0, 0), 0, 1)), True)
         for thing in odd_things() + [
+            (), ((),),
             ((), False, 1), ((), 0, True), ([], 0, 1), ((0, False), 0, 1), ((0,), 0, 1), ((0, 0, 0), 0, 1), [(), 0, 1],
             ((), 0), ((), 0, 1, 1), ((), "0", 1), ((), None, 1), (None, 0, 1), ((-1, 0), 0, 1), ((0, -1), 0, 1),
             ((), 1, 0),
@@ -207,6 +208,11 @@ class Serving(unittest.TestCase):
             (("many", COPIES - 1, DOWN), ("many", COPIES, DOWN), True), (ACT, NONE, False),
             # neither serves for the other one
             (("act", 1, 2), ("act", 4, 9), False), (("act", 4, 9), ("act", 1, 2), False),
+            # one that needs far less alone doesn't come as high, or ends lower
+            (NONE, ("then", (("act", 0, 1), ("act", 10, 10))), False), (NONE, ("then", (EVEN, ("act", 3, 2))), True),
+            (("act", 2, 1), ("then", (("act", 9, 9), ("act", 3, 2))), True),
+            (("act", 3, 1), ("then", (("act", 9, 9), ("act", 3, 2))), False),
+            (("act", 3, 1), ("then", (("act", 9, 9), ("act", 9, 7))), True),
         ):
             self.assertIs(self.look(one, other), told, (one, other))
 
@@ -224,6 +230,23 @@ class Serving(unittest.TestCase):
                     made = put(company, one), put(company, other)
                     self.assertLessEqual(least(made[0]), least(made[1]), (one, other, company))
         self.assertGreater(min(found.count(True), found.count(False)), 40)
+
+    def test_rows_of_forms_of_all_heights(self):
+        chance = random.Random(200)
+        shapes = [chance_form(chance, 2, 2) for _ in range(60)] + [chance_form(chance, 1, 2) for _ in range(60)]
+        books = [
+            ("then", tuple(("act",) + pair for pair in up + ((top + chance.choice((0, 0, 9, 30)),) * 2,) + down))
+            for up, top, down in shapes
+        ]
+        tests = many_tests(chance, 10) + [(low, low + 99) for low in range(20)] + [(low + 99, low) for low in range(20)]
+        asked = {book: [needs(book, test) for test in tests] for book in books}
+        found = []
+        for one in books[:60]:
+            for other in books[60:]:
+                told = self.look(one, other)
+                found.append(told)
+                self.assertIs(told, all(this <= that for this, that in zip(asked[one], asked[other])), (one, other))
+        self.assertGreater(min(found.count(True), found.count(False)), 100)
 
     def test_against_all_orders_in_companies(self):
         chance = random.Random(193)
