@@ -145,6 +145,18 @@ def acts_in(book):
     return book[1] * acts if is_copied(book) else acts
 
 
+def has_acts(book):
+    """Whether any act is done at all."""
+    if book[0] == "act":
+        return True
+    if is_copied(book):
+        return book[1] > 0 and has_acts(book[2])
+    for part in book[1]:
+        if has_acts(part):
+            return True
+    return False
+
+
 def gain_of(book):
     """What all acts gain together."""
     if book[0] == "act":

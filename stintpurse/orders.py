@@ -1,6 +1,6 @@
 """Orders of a book's acts, one by one, and moves from one order to another."""
 
-from stintpurse.books import acts_in, is_copied
+from stintpurse.books import acts_in, has_acts, is_copied
 from stintpurse.bounds import ROW
 from stintpurse.errors import NoMove, NoOrder, TooMany
 from stintpurse.looks import is_whole
@@ -13,7 +13,7 @@ def next_in(book):
         return []
     if not is_copied(book):
         return list(enumerate(book[1]))
-    copies = book[1] if acts_in(book[2]) > 0 else 0
+    copies = book[1] if has_acts(book[2]) else 0
     return [(number, book[2]) for number in range(copies)]
 
 

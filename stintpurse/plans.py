@@ -1,6 +1,6 @@
 """Plans: orders of books told by pieces, however many copies there are."""
 
-from stintpurse.books import acts_in, is_copied, parts_of
+from stintpurse.books import acts_in, has_acts, is_copied, parts_of
 from stintpurse.bounds import ROW
 from stintpurse.errors import TooMany
 from stintpurse.looks import is_whole, same
@@ -230,7 +230,7 @@ def piece_spots(book, plan):
     if book[0] == "act":
         return [[()]]
     # What has no acts, has no pieces; what stands in it may still have far more copies than one could go through.
-    if acts_in(book) == 0:
+    if not has_acts(book):
         return []
     parts = [piece_spots(part, inner) for part, inner in zip(parts_of(book), plans_in(book, plan))]
     if book[0] == "times":

@@ -87,6 +87,30 @@ FUNCTIONS = {
         "serves": ("one", "other"),
         "outdone": ("one", "other"),
     },
+    "standings": {
+        "begin": ("book",),
+        "is_standing": ("book", "thing"),
+        "is_ended": ("book", "standing"),
+        "ways": ("book", "standing"),
+        "gone": ("book", "standing", "way"),
+        "act_at": ("book", "way"),
+        "standing_text": ("book", "standing"),
+    },
+    "rests": {
+        "rest": ("book", "standing"),
+        "got": ("book", "standing"),
+    },
+    "safety": {
+        "safe": ("book", "standing", "purse"),
+        "lacks": ("book", "standing", "purse"),
+        "safe_ways": ("book", "standing", "purse"),
+        "greatest": ("book", "standing", "purse"),
+        "reached": ("book", "standing", "purse"),
+    },
+    "going": {
+        "part_rest": ("book", "standing", "place"),
+        "stretch": ("book", "standing", "place"),
+    },
 }
 
 
