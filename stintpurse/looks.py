@@ -1,4 +1,6 @@
-"""What all looks at anything share: whole numbers, and sameness to the last part."""
+"""What all looks at anything share: whole numbers, numbers in figures, and sameness to the last part."""
+
+FIGURES = "0123456789"
 
 
 def is_whole(thing):
@@ -16,3 +18,15 @@ def same(told, thing):
         )
     # Python holds 1 and True to be equal, the document doesn't.
     return is_whole(told) == is_whole(thing) and told == thing
+
+
+def is_figure(sign):
+    """Whether a text is one figure."""
+    return len(sign) == 1 and sign in FIGURES
+
+
+def is_figures(text):
+    """Whether a text is a number in figures, without noughts ahead."""
+    if not all([is_figure(sign) for sign in text]):
+        return False
+    return text == "0" or (text != "" and text[0] != "0")

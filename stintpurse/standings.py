@@ -185,7 +185,7 @@ def gathered(part, runs):
         text = text_of(part, inner)
         many = table[text][0] if text in table else 0
         table[text] = (many + count, inner)
-    return tuple([table[text] for text in sorted(table)])
+    return tuple([table[text] for text in sorted(list(table))])
 
 
 def with_within(book, standing, number, inner):

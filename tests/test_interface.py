@@ -4,6 +4,10 @@ import importlib
 import inspect
 import unittest
 
+from stintpurse.benches import Bench
+from stintpurse.bounds import FRONTS
+from stintpurse.fronts import fronts
+
 FUNCTIONS = {
     "pairs": {
         "is_pair": ("thing",),
@@ -111,6 +115,50 @@ FUNCTIONS = {
         "part_rest": ("book", "standing", "place"),
         "stretch": ("book", "standing", "place"),
     },
+    "fronts": {
+        "fronts": ("book", "most"),
+        "rows_through": ("book", "purse"),
+        "row_at": ("book", "purse", "number"),
+    },
+    "texts": {
+        "book_text": ("book",),
+        "read_book": ("thing",),
+        "form_text": ("form",),
+        "read_form": ("thing",),
+    },
+}
+
+CLASSES = {
+    ("benches", "Bench"): {
+        "__init__": ("self", "book", "purse", "guarded"),
+        "go": ("self", "way"),
+        "stretch": ("self", "place"),
+        "put": ("self", "place", "book"),
+        "join": ("self", "book"),
+        "follow": ("self", "book"),
+        "gift": ("self", "x"),
+        "back": ("self",),
+        "book": ("self",),
+        "standing": ("self",),
+        "holds": ("self",),
+        "left": ("self",),
+        "ways": ("self",),
+        "is_safe": ("self",),
+        "lacking": ("self",),
+        "is_ended": ("self",),
+        "deeds": ("self",),
+        "log": ("self",),
+        "twin": ("self",),
+        "__len__": ("self",),
+        "__eq__": ("self", "other"),
+        "__str__": ("self",),
+    },
+    ("desk", "Desk"): {
+        "__init__": ("self",),
+        "say": ("self", "line"),
+        "run": ("self", "lines"),
+        "kept": ("self",),
+    },
 }
 
 
@@ -122,6 +170,22 @@ class Interface(unittest.TestCase):
                 function = getattr(module, name)
                 self.assertEqual(function.__module__, f"stintpurse.{file}", name)
                 self.assertEqual(tuple(inspect.signature(function).parameters), arguments, name)
+
+    def test_methods_stand_in_their_class_itself(self):
+        for (file, name), methods in CLASSES.items():
+            made = getattr(importlib.import_module(f"stintpurse.{file}"), name)
+            self.assertEqual(made.__module__, f"stintpurse.{file}", name)
+            for method, arguments in methods.items():
+                self.assertEqual(tuple(inspect.signature(vars(made)[method]).parameters), arguments, method)
+
+    def test_what_is_handed_in_by_its_name(self):
+        for function, name, plain in ((fronts, "most", FRONTS), (Bench.__init__, "guarded", False)):
+            parameter = inspect.signature(function).parameters[name]
+            self.assertEqual((parameter.kind, parameter.default), (inspect.Parameter.KEYWORD_ONLY, plain))
+        with self.assertRaises(TypeError):
+            fronts(("act", 1, 1), 7)
+        with self.assertRaises(TypeError):
+            Bench(("act", 1, 1), 7, True)
 
 
 if __name__ == "__main__":

@@ -120,6 +120,20 @@ class Language(unittest.TestCase):
             self.assertEqual(sorted(set(taken) & set(inner)), [], name)
             self.assertEqual(len(taken), len(set(taken)), name)
 
+    def test_no_name_is_a_method_and_an_attribute(self):
+        methods = {
+            node.name for name, made in self.nodes() if isinstance(made, ast.ClassDef)
+            for node in made.body if isinstance(node, ast.FunctionDef)
+        }
+        attributes = {
+            node.attr for name, node in self.nodes() if isinstance(node, ast.Attribute) and isinstance(node.ctx, ast.Store)
+        }
+        self.assertEqual(sorted(methods & attributes), [])
+
+    def test_no_generator_where_a_list_is_wanted(self):
+        for name, node in self.nodes():
+            self.assertNotIsInstance(node, ast.GeneratorExp, (name, getattr(node, "lineno", 0)))
+
     def test_no_two_files_import_from_each_other(self):
         needs = {
             name[:-3]: {node.module.split(".")[1] for node in tree.body if isinstance(node, ast.ImportFrom)}
