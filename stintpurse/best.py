@@ -2,9 +2,10 @@
 
 from stintpurse.books import is_copied, parts_of
 from stintpurse.formed import forms_paper, least, paper_holds
-from stintpurse.looks import same
-from stintpurse.pairs import power
-from stintpurse.plans import pieces_with, plan_least, planfault
+from stintpurse.forms import is_form, least_of
+from stintpurse.looks import is_whole
+from stintpurse.pairs import power, whole
+from stintpurse.plans import pieces_if_plan, pieces_with
 from stintpurse.weaving import stretches_of, turn_of
 
 
@@ -78,11 +79,20 @@ def purse_paper(book):
     return (least(book), best_plan(book), forms_paper(book))
 
 
+def is_paper_of(purse, thing):
+    """Whether thing, anything, may be a forms paper with just this purse as the least one."""
+    if not (isinstance(thing, tuple) and len(thing) == 2 and is_form(thing[0])):
+        return False
+    return least_of(thing[0]) == purse
+
+
 def purse_holds(book, thing):
     """Whether thing, anything, is (purse, plan, paper) of the book, whatever plan the purse bears."""
     if not (isinstance(thing, tuple) and len(thing) == 3):
         return False
     purse, plan, paper = thing
-    if not (same(least(book), purse) and paper_holds(book, paper)):
+    # What the paper itself tells of the purse is looked at first, as it takes next to no time.
+    if not (is_whole(purse) and is_paper_of(purse, paper) and paper_holds(book, paper)):
         return False
-    return planfault(book, plan) is None and plan_least(book, plan) <= purse
+    pieces = pieces_if_plan(book, plan)
+    return pieces is not None and whole(pieces)[0] <= purse

@@ -7,9 +7,8 @@ with those behind it in a then or times at their beginning.
 from stintpurse.books import is_copied
 from stintpurse.forms import fall, form_of, form_row, rise
 from stintpurse.merging import NONE, beside_form, many_form, then_form, times_form
-from stintpurse.pairs import heights
 from stintpurse.standings import begin, gathered, with_within, within
-from stintpurse.stretches import ups_of
+from stintpurse.stretches import climb
 
 
 def still_open(book, standing):
@@ -56,9 +55,8 @@ def end_of_ups(forms, ups):
     """(number, many): the first ups of forms one behind another end with so many ups of the form with that number."""
     rows = [form_row(form) for form in forms]
     row = tuple([pair for part in rows for pair in part])
-    tall = heights(row)
     # Where it is as high as the up comes for the first time, an up of one of the forms has just ended.
-    at = tall.index(tall[ups_of(row)[ups - 1][1]])
+    at = climb(row)[0][ups - 1][2]
     number = 0
     while at > len(rows[number]):
         at -= len(rows[number])

@@ -4,7 +4,6 @@ from stintpurse.books import bookfault, field_fault, is_worded, parts_of, with_p
 from stintpurse.errors import BadBook, BadCompany
 from stintpurse.formed import form
 from stintpurse.forms import form_of, least_of
-from stintpurse.looks import same
 from stintpurse.merging import beside_form, then_form
 
 OPEN = ("open",)
@@ -13,7 +12,7 @@ ACT = ("act", 0, 0)
 
 def open_places(thing):
     """All places of anything, gone into as far as it is like a book, at which the open place stands."""
-    if same(OPEN, thing):
+    if thing == OPEN:
         return [()]
     if not is_worded(thing) or field_fault(thing) is not None:
         return []

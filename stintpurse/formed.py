@@ -1,16 +1,23 @@
 """The form of each book, and the paper with the forms of all its parts."""
 
 from stintpurse.books import parts_of
-from stintpurse.forms import form_of, least_of
+from stintpurse.forms import least_of
 from stintpurse.looks import same
 from stintpurse.merging import beside_form, many_form, then_form, times_form
+
+
+def act_form(need, leave):
+    """The form of a pair alone."""
+    if need < leave:
+        return (((need, leave),), leave, ())
+    return ((), need, ((need, leave),) if need > leave else ())
 
 
 def form_with(book, forms):
     """The form of a book whose parts have these forms."""
     word = book[0]
     if word == "act":
-        return form_of((book[1:],))
+        return act_form(book[1], book[2])
     if word == "then":
         return then_form(forms)
     if word == "beside":
@@ -22,6 +29,8 @@ def form_with(book, forms):
 
 def form(book):
     """The form of a book."""
+    if book[0] == "act":
+        return act_form(book[1], book[2])
     return form_with(book, tuple([form(part) for part in parts_of(book)]))
 
 
@@ -32,6 +41,8 @@ def least(book):
 
 def forms_paper(book):
     """(form, papers): the book's form, with the papers of the books in it."""
+    if book[0] == "act":
+        return (act_form(book[1], book[2]), ())
     papers = tuple([forms_paper(part) for part in parts_of(book)])
     return (form_with(book, tuple([paper[0] for paper in papers])), papers)
 

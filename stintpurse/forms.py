@@ -1,8 +1,8 @@
 """Forms (up, top, down): what anybody beside or behind a row ever sees of it."""
 
 from stintpurse.looks import is_whole
-from stintpurse.pairs import are_pairs, turned_row, whole
-from stintpurse.stretches import cut
+from stintpurse.pairs import are_pairs, turned_row
+from stintpurse.stretches import climb
 
 
 def is_rising(pairs):
@@ -13,7 +13,8 @@ def is_rising(pairs):
 
 def least_top(up, down):
     """The least top that goes with up and down."""
-    return max([0] + [pair[1] for pair in up[-1:]] + [pair[0] for pair in down[:1]])
+    last = up[-1][1] if up else 0
+    return max(last, down[0][0]) if down else last
 
 
 def is_form(thing):
@@ -26,17 +27,14 @@ def is_form(thing):
     return is_rising(up) and is_rising(turned_row(down)) and top >= least_top(up, down)
 
 
-def wholes(row, stretches):
-    """The stretches of a row, each as a pair."""
-    return tuple([whole(row[first:last]) for first, last in stretches])
-
-
 def form_of(row):
     """The form of a row."""
-    ups, (first, last), downs = cut(row)
-    up = wholes(row, ups)
-    down = wholes(row, downs)
-    return (up, max(whole(row[first:last])[0], least_top(up, down)), down)
+    ups, flat, last = climb(row)
+    # Turned about, it comes up to where it is highest for the last time, by its downs.
+    downs = climb(turned_row(row))[0]
+    up = tuple([told[:2] for told in ups])
+    down = turned_row(tuple([told[:2] for told in downs]))
+    return (up, max(flat, least_top(up, down)), down)
 
 
 def form_row(form):

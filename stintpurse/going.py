@@ -2,7 +2,7 @@
 
 from stintpurse.climbs import climbed, left_paper
 from stintpurse.errors import NoPart
-from stintpurse.looks import same
+from stintpurse.looks import is_whole
 from stintpurse.rests import rest_of
 from stintpurse.standings import check_standing, entered, stood_on
 
@@ -12,7 +12,7 @@ def next_number(book, standing, number):
     if book[0] != "times":
         return number
     # A place tells the copy that stands next as 0, whichever it is.
-    return standing[0] if same(0, number) else None
+    return standing[0] if is_whole(number) and number == 0 else None
 
 
 def part_way(book, standing, place):

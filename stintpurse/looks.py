@@ -9,15 +9,12 @@ def is_whole(thing):
 
 
 def same(told, thing):
-    """Whether thing, anything, is just what was told."""
-    if isinstance(told, tuple):
-        return (
-            isinstance(thing, tuple)
-            and len(told) == len(thing)
-            and all([same(part, other) for part, other in zip(told, thing)])
-        )
-    # Python holds 1 and True to be equal, the document doesn't.
-    return is_whole(told) == is_whole(thing) and told == thing
+    """Whether thing, anything, is just what was told, of tuples and whole numbers."""
+    if told != thing:
+        return False
+    # Python holds 1 and True to be equal, the document doesn't. Written out, all are found sooner than one by one.
+    written = repr(thing)
+    return "e" not in written and "." not in written
 
 
 def is_figure(sign):

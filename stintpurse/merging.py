@@ -8,10 +8,13 @@ NONE = ((), 0, ())
 
 def then_form(forms):
     """The form of all the forms' rows one behind another."""
-    row = []
-    for form in forms:
-        row.extend(form_row(form))
-    return form_of(tuple(row))
+    told = [form for form in forms if form != NONE]
+    if len(told) < 2:
+        return told[0] if told else NONE
+    row = ()
+    for form in told:
+        row += form_row(form)
+    return form_of(row)
 
 
 def gathered(pairs):
@@ -35,6 +38,8 @@ def woven(ups, top, downs):
 
 def beside_form(forms):
     """The form of the forms beside one another."""
+    if len(forms) == 1:
+        return forms[0]
     ups = [pair for form in forms for pair in form[0]]
     downs = [pair for form in forms for pair in form[2]]
     return woven(ups, max([0] + [form[1] for form in forms]), downs)
@@ -63,8 +68,8 @@ def times_form(k, form):
 
 def many_form(k, form):
     """The form of k of the form beside one another."""
-    if k == 0:
-        return NONE
+    if k < 2:
+        return form if k == 1 else NONE
     up, top, down = form
     ups = [(need, need + k * (leave - need)) for need, leave in up]
     downs = [(leave + k * (need - leave), leave) for need, leave in down]

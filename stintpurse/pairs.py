@@ -39,10 +39,15 @@ def joined(one, other):
 
 def whole(row):
     """The pair that the row is when it's done in one piece."""
-    made = (0, 0)
-    for pair in row:
-        made = joined(made, pair)
-    return made
+    need = 0
+    held = 0
+    for wanted, leave in row:
+        if wanted > held:
+            need += wanted - held
+            held = leave
+        else:
+            held += leave - wanted
+    return (need, held)
 
 
 def power(pair, k):

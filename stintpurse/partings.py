@@ -48,7 +48,7 @@ def parting_holds(one, other, thing):
     if not (isinstance(thing, tuple) and len(thing) == 3):
         return False
     test = thing[0]
-    if not (same((), test) or is_pair(test)):
+    if not (test == () or is_pair(test)):
         return False
     told = (test, needed(form(one), test), needed(form(other), test))
     return told[1] != told[2] and same(told, thing)

@@ -3,14 +3,14 @@
 from stintpurse.books import acts_in, has_acts, is_copied, parts_of
 from stintpurse.bounds import ROW
 from stintpurse.errors import TooMany
-from stintpurse.looks import is_whole, same
+from stintpurse.looks import is_whole
 from stintpurse.pairs import joined, power, whole
 
 
 def is_plan_shaped(book, thing):
     """Whether thing, anything, looks on its outside like a plan of the book."""
     if book[0] == "act":
-        return same((), thing)
+        return thing == ()
     if not (isinstance(thing, tuple) and len(thing) == 2 and isinstance(thing[1], tuple)):
         return False
     return is_copied(book) or isinstance(thing[0], tuple)
@@ -32,36 +32,30 @@ def piece_count(book, plan):
     return len(plan[1])
 
 
-def is_from_one(thing):
-    """Whether thing is a whole number from 1 on."""
-    return is_whole(thing) and thing >= 1
-
-
 def is_taking(thing, books):
     """Whether thing, anything, is (number, many) of so many books."""
     if not (isinstance(thing, tuple) and len(thing) == 2):
         return False
     number, many = thing
-    return is_whole(number) and 0 <= number < books and is_from_one(many)
-
-
-def is_piece(thing, books):
-    """Whether thing, anything, takes pieces of so many books, one at least."""
-    return isinstance(thing, tuple) and len(thing) > 0 and all([is_taking(part, books) for part in thing])
+    return is_whole(number) and is_whole(many) and 0 <= number < books and many >= 1
 
 
 def pieces_hold(word, many, pieces):
     """Whether pieces take all of the books' pieces, many of each; of a then in the books' order."""
-    if not all([is_piece(piece, len(many)) for piece in pieces]):
-        return False
-    takings = [taking for piece in pieces for taking in piece]
-    taken = [0 for book in many]
-    for number, count in takings:
-        taken[number] += count
-    if taken != many:
-        return False
-    numbers = [number for number, count in takings]
-    return word == "beside" or numbers == sorted(numbers)
+    left = list(many)
+    last = 0
+    for piece in pieces:
+        if not isinstance(piece, tuple) or len(piece) == 0:
+            return False
+        for taking in piece:
+            if not is_taking(taking, len(left)):
+                return False
+            number, count = taking
+            left[number] -= count
+            if word == "then" and number < last:
+                return False
+            last = number
+    return not any(left)
 
 
 def ends_hold(ends, last):
@@ -76,12 +70,11 @@ def ends_hold(ends, last):
 
 def counts_hold(counts, pieces):
     """Whether counts, each from 1 on, come to so many pieces."""
-    return all([is_from_one(count) for count in counts]) and sum(counts) == pieces
+    return all([is_whole(count) and count >= 1 for count in counts]) and sum(counts) == pieces
 
 
-def telling_fault(book, plan):
-    """What is wrong with how a plan puts the pieces of its parts together, None where nothing is."""
-    many = [piece_count(part, inner) for part, inner in zip(parts_of(book), plans_in(book, plan))]
+def telling_fault(book, plan, many):
+    """What is wrong with how a plan puts the pieces of its parts, many of each, together; None where nothing is."""
     if book[0] == "act":
         return None
     if book[0] == "times":
@@ -103,7 +96,7 @@ def fault_at(book, thing, place):
         fault = fault_at(part, plans[number], place + (number,))
         if fault is not None:
             return fault
-    why = telling_fault(book, thing)
+    why = telling_fault(book, thing, [piece_count(part, inner) for part, inner in zip(parts, plans)])
     return None if why is None else (place, why)
 
 
@@ -117,12 +110,12 @@ def gathered_wholes(pieces, parts):
     told = []
     taken = [0 for pairs in parts]
     for piece in pieces:
-        made = (0, 0)
+        row = []
         for number, many in piece:
             first = taken[number]
             taken[number] = first + many
-            made = joined(made, whole(parts[number][first:first + many]))
-        told.append(made)
+            row.extend(parts[number][first:first + many])
+        told.append(whole(row))
     return told
 
 
@@ -171,6 +164,27 @@ def pieces_of(book, plan):
         return (book[1:],)
     parts = [pieces_of(part, inner) for part, inner in zip(parts_of(book), plans_in(book, plan))]
     return pieces_with(book, plan[1], parts)
+
+
+def pieces_if_plan(book, thing):
+    """The pairs of all pieces, None where thing, anything, is no plan of the book: all in one go, as judges ask it."""
+    if book[0] == "act":
+        return (book[1:],) if thing == () else None
+    if not is_plan_shaped(book, thing):
+        return None
+    books = parts_of(book)
+    plans = plans_in(book, thing)
+    if len(plans) != len(books):
+        return None
+    parts = []
+    for number, part in enumerate(books):
+        pairs = pieces_if_plan(part, plans[number])
+        if pairs is None:
+            return None
+        parts.append(pairs)
+    if telling_fault(book, thing, [len(pairs) for pairs in parts]) is not None:
+        return None
+    return pieces_with(book, thing[1], parts)
 
 
 def plan_least(book, plan):

@@ -1,70 +1,57 @@
 """Stretches: a row cut into its ups, its middle and its downs."""
 
 from stintpurse.looks import same
-from stintpurse.pairs import dips, heights, turned_row
+from stintpurse.pairs import turned_row
 
 
-def first_above(tall, start):
-    """The first place behind start that is higher than start, None where there is none."""
-    for at in range(start + 1, len(tall)):
-        if tall[at] > tall[start]:
-            return at
-    return None
+def climb(row):
+    """(ups, flat, last): all ups of a row, and how it goes on from where it is highest.
 
-
-def up_end(tall, deep, start):
-    """Where the up that begins at start ends; start itself where there is none."""
-    above = first_above(tall, start)
-    if above is None:
-        return start
-    # A longer beginning never has a greater least dip, so the shortest one that is above 0 has the greatest.
-    floor = min(deep[start:above])
-    best = above
-    at = above
-    while at < len(deep) and deep[at] >= floor:
-        at += 1
-        if tall[at] >= tall[best]:
-            best = at
-    return best
-
-
-def ups_of(row):
-    """All ups of a row, one behind another."""
-    tall = heights(row)
-    deep = dips(row)
+    An up is (need, leave, peak, end): the pair that it is, how many pairs of the row stand ahead of the first place
+    where it is as high as it comes, and ahead of its end. A pair that comes higher than all ahead of it goes to the up
+    ahead, where no dip since then is deeper than those of that up; else it ends a new one. From the height low, with
+    its deepest dip at floor, to the height best an up is the pair (low - floor, best - floor). Behind all ups flat is
+    wanted to come as high again, for the last time behind so many pairs as last tells.
+    """
     ups = []
-    start = 0
-    end = up_end(tall, deep, start)
-    while end > start:
-        ups.append((start, end))
-        start = end
-        end = up_end(tall, deep, start)
-    return tuple(ups)
+    height = best = deepest = floor = flat = last = 0
+    for at, (need, leave) in enumerate(row, start=1):
+        dip = height - need
+        if dip < deepest:
+            deepest = dip
+        height = dip + leave
+        if height < best:
+            continue
+        last = at
+        if height == best:
+            flat = best - deepest
+            if ups and deepest >= floor:
+                ups[-1] = ups[-1][:3] + (at,)
+            continue
+        if ups and deepest >= floor:
+            ups[-1] = (ups[-1][0], height - floor, at, at)
+        else:
+            floor = deepest
+            ups.append((best - floor, height - floor, at, at))
+        best = deepest = height
+        flat = 0
+    return (ups, flat, last)
 
 
-def middle_end(row, start):
-    """The last place from start on that is as high as start."""
-    tall = heights(row)
-    end = start
-    for at in range(start, len(tall)):
-        if tall[at] == tall[start]:
-            end = at
-    return end
-
-
-def downs_of(row, start):
-    """The downs of what is left of a row from start on."""
-    many = len(row)
-    turned = ups_of(turned_row(row[start:]))
-    return tuple([(many - last, many - first) for first, last in turned[::-1]])
+def between(ends):
+    """(first, last) of stretches one behind another, from the first place on, that end so."""
+    return tuple([(first, last) for first, last in zip([0] + ends, ends)])
 
 
 def cut(row):
     """(ups, middle, downs) of a row, each stretch as (first, last)."""
-    ups = ups_of(row)
-    start = ups[-1][1] if ups else 0
-    end = middle_end(row, start)
-    return (ups, (start, end), downs_of(row, end))
+    ups, flat, end = climb(row)
+    ends = [up[3] for up in ups]
+    start = ends[-1] if ends else 0
+    many = len(row)
+    turned = between([up[3] for up in climb(turned_row(row[end:]))[0]])
+    downs = tuple([(many - last, many - first) for first, last in turned[::-1]])
+    return (between(ends), (start, end), downs)
 
 
 def stretches_hold(row, thing):

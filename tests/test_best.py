@@ -1,6 +1,7 @@
 """[21], [3] (c): best plans, and the paper that a judge lets by."""
 
 import random
+import sys
 import unittest
 
 from planning import chance_plan
@@ -13,6 +14,36 @@ from stintpurse.formed import forms_paper, least
 from stintpurse.plans import plan_least, planfault, spelled
 
 DOWN = ("act", 5, 2)
+# the book of which the judge was once slow
+SLOW = ("times", 0, ("beside", (
+    ("then", (
+        ("beside", (
+            ("times", 1, ("act", 9, 0)),
+            ("beside", (("act", 7, 6), ("act", 8, 4), ("act", 3, 0), ("act", 4, 8))),
+            ("beside", (("act", 2, 2), ("act", 0, 1), ("act", 1, 9))),
+        )),
+        ("times", 3, ("then", (("act", 2, 1), ("act", 4, 0)))),
+        ("beside", (
+            ("act", 3, 5),
+            ("beside", (("act", 0, 6), ("act", 8, 5), ("act", 2, 0), ("act", 0, 4))),
+            ("act", 7, 1),
+            ("many", 0, ("act", 0, 0)),
+            ("many", 2, ("act", 0, 4)),
+        )),
+        ("beside", (
+            ("beside", (("act", 6, 0), ("act", 9, 9), ("act", 1, 2), ("act", 0, 0))),
+            ("act", 5, 1),
+            ("times", 2, ("act", 0, 5)),
+        )),
+    )),
+    ("act", 5, 4),
+    ("then", (
+        ("beside", (
+            ("many", 1, ("act", 6, 0)),
+            ("beside", (("act", 5, 5), ("act", 0, 5), ("act", 0, 6), ("act", 0, 2))),
+        )),
+    )),
+)))
 
 
 class Best(unittest.TestCase):
@@ -123,6 +154,40 @@ class Papers(unittest.TestCase):
                     told = asked_twice(self, purse_holds, book, bad)
                     same = repr(bad) == repr((purse, plan, paper))
                     self.assertIs(told, same, bad)
+
+    def test_of_the_book_that_was_slow(self):
+        for book in (SLOW, ("times", 1, SLOW[2]), ("many", COPIES // 10, SLOW[2])):
+            told = purse_paper(book)
+            purse, plan, paper = told
+            self.assertIs(asked_twice(self, purse_holds, book, told), True)
+            turned = purse_paper(turned_book(book))
+            for bad in (
+                (purse + 1, plan, paper), (purse - 1, plan, paper), (), None, [purse, plan, paper], list(told), turned,
+                (purse, plan, turned[2]), (turned[0], plan, paper) if turned[0] != purse else None, (purse, plan, ()),
+                (purse, (), paper), (None, plan, paper), told + (None,), told[:2],
+            ):
+                self.assertIs(asked_twice(self, purse_holds, book, bad), False)
+            self.assertIs(purse_holds(turned_book(book), turned), True)
+        self.assertEqual(purse_paper(SLOW)[0], 0)
+        self.assertIs(purse_holds(SLOW, (False,) + purse_paper(SLOW)[1:]), False)
+
+    def test_it_takes_few_steps(self):
+        """Calls of functions are counted, as these are the same with each run."""
+        told = purse_paper(SLOW)
+        every = self.calls(SLOW, told)
+        self.assertLess(every, 1200)
+        for bad in ((told[0] + 1,) + told[1:], (), None, list(told), told[:2], (None,) + told[1:]):
+            self.assertLess(self.calls(SLOW, bad), every // 20)
+
+    def calls(self, book, thing):
+        """How many calls of the program's functions a look takes."""
+        counted = []
+        sys.setprofile(lambda frame, event, more: counted.append(event) if event == "call" else None)
+        try:
+            purse_holds(book, thing)
+        finally:
+            sys.setprofile(None)
+        return len(counted)
 
     def test_the_plan_of_a_book_that_can_be_spelled(self):
         for book in wide_books():
