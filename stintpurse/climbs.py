@@ -66,10 +66,9 @@ def end_of_ups(forms, ups):
 
 def copy_of_ups(copies, form, ups):
     """(number, many) of the first ups of so many copies one behind another that have that form."""
-    every = len(form[0])
     # Only the last up of copies that gain goes from one into another, through all of them.
-    if copies > 1 and rise(form) > fall(form) and ups == len(times_form(copies, form)[0]):
-        return (copies - 1, every)
+    if rise(form) > fall(form) and ups == len(times_form(copies, form)[0]):
+        return (copies - 1, len(form[0]))
     return (0, ups)
 
 

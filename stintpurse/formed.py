@@ -14,10 +14,8 @@ def act_form(need, leave):
 
 
 def form_with(book, forms):
-    """The form of a book whose parts have these forms."""
+    """The form of a book that isn't an act, and whose parts have these forms."""
     word = book[0]
-    if word == "act":
-        return act_form(book[1], book[2])
     if word == "then":
         return then_form(forms)
     if word == "beside":

@@ -175,7 +175,8 @@ def is_way(book, standing, thing):
         here = entered(here[0], here[1], number)
         if here is None:
             return False
-    return here[0][0] == "act" and here[1] == 0
+    # Only an act stands at 0, one that is still to be done.
+    return here[1] == 0
 
 
 def gathered(part, runs):

@@ -11,7 +11,7 @@ from stintpurse.errors import NoNumber, NoPurse, TooMany
 from stintpurse.formed import least
 from stintpurse.fronts import fronts, row_at, rows_through
 from stintpurse.rests import rest
-from stintpurse.standings import act_at, begin, gone, is_ended, ways
+from stintpurse.standings import act_at, begin, gone, is_ended, is_standing, ways
 
 PLUS = ("act", 0, 1)
 CROWD = ("many", 2, PLUS)
@@ -47,8 +47,8 @@ class Fronts(unittest.TestCase):
             wanted = tuple(sorted(many, key=lambda standing: (many[standing], plain_text(book, standing))))
             self.assertEqual(asked_twice(self, fronts, book), wanted, book)
             self.assertEqual(fronts(book, most=len(wanted)), wanted)
-            if len(wanted) > 1:
-                self.refuse(book, len(wanted) - 1)
+            for most in range(1, len(wanted)):
+                self.refuse(book, most)
 
     def test_of_each_kind(self):
         two = ("then", (ACT, NONE, ACT))
@@ -66,6 +66,21 @@ class Fronts(unittest.TestCase):
         lines = fronts(("beside", (("times", 12, ACT), ("times", 12, ACT))))
         twelve = [standing for standing in lines if sum(part[0] for part in standing) == 12]
         self.assertEqual([part[0][0] for part in twelve], [0, 10, 11, 12, 1, 2, 3, 4, 5, 6, 7, 8, 9])
+
+    def test_copies_by_the_texts_of_how_they_stand(self):
+        for inner in (("times", 12, ACT), ("many", 12, ACT)):
+            told = fronts(("many", 2, inner))
+            self.assertEqual(len(told), 13 * 14 // 2)
+            for standing in told:
+                self.assertTrue(is_standing(("many", 2, inner), standing), standing)
+
+    def test_parts_without_copies_count_no_acts(self):
+        for empty in (("many", 0, ACT), ("times", 0, ACT), NONE, ("beside", ()), ("many", 2, NONE)):
+            book = ("beside", (("then", (ACT, empty, ACT)), ("then", (ACT, ACT, ACT))))
+            journey = Journey(book)
+            many = {journey.standing(done): len(done) for done in journey.states()}
+            wanted = tuple(sorted(many, key=lambda standing: (many[standing], plain_text(book, standing))))
+            self.assertEqual(fronts(book), wanted)
 
     def test_as_many_as_there_may_be(self):
         for book in (("times", FRONTS - 1, ACT), ("many", FRONTS - 1, ACT), ("many", 1, ("times", FRONTS - 1, ACT))):

@@ -122,6 +122,17 @@ class Stretches(unittest.TestCase):
             self.look(Journey(("times", 3, ("then", rows[0]))))
             self.look(Journey(("then", (("times", 2, ("then", rows[0])), ("then", rows[1])))))
 
+    def test_into_copies_that_gain_nothing_or_lose(self):
+        """The next copy is gone into, but not through: what stands behind its highest place wants much more."""
+        for last in (0, 1):
+            copy = ("then", (("act", 0, 3), ("act", 50, 48), ("act", 1, 0), ("act", last, 0)))
+            for k in (2, 3, 4, COPIES):
+                book = ("times", k, copy)
+                self.assertEqual(stretch(book, (0, (2, 0)), ()), (1 + last, 3, (1, (1, 0))))
+                self.assertIsNone(stretch(book, (k - 1, (2, 0)), ()))
+            for k in (2, 3):
+                self.look(Journey(("times", k, copy)))
+
     def test_one_that_is_told(self):
         book = ("beside", (CLIMB, ("many", 2, ("act", 4, 5))))
         standing = begin(book)

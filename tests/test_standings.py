@@ -16,7 +16,7 @@ TWO = ("then", (ACT, ("act", 1, 0)))
 EMPTY = ("beside", (NONE, ("times", 0, ACT)))
 MANY = ("many", 3, TWO)
 # what is no place, way, standing or number anywhere
-NO_WAYS = ((True,), [0], [], {}, None, 0, "0", (0.5,), ("0",), (-1,), (None,), ((0,),), (10 ** 59,), (0, []))
+NO_WAYS = ((True,), (False,), [0], [], {}, None, 0, "0", (0.5,), ("0",), (-1,), (None,), ((0,),), (10 ** 59,), (0, []))
 
 
 def journeys(count, seed, most=6):
