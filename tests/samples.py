@@ -69,6 +69,8 @@ def spoiled(thing):
         yield thing + 1
         yield thing - 1
         yield str(thing)
+        if abs(thing) < 10 ** 15:
+            yield float(thing)
         if thing in (0, 1):
             yield bool(thing)
 
