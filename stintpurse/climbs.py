@@ -5,7 +5,8 @@ with those behind it in a then or times at their beginning.
 """
 
 from stintpurse.books import is_copied
-from stintpurse.forms import fall, form_of, form_row, rise
+from stintpurse.formed import act_form
+from stintpurse.forms import fall, form_row, rise
 from stintpurse.merging import NONE, beside_form, many_form, then_form, times_form
 from stintpurse.standings import begin, gathered, with_within, within
 from stintpurse.stretches import climb
@@ -25,7 +26,7 @@ def still_open(book, standing):
 def left_paper(book, standing):
     """The paper of what is left of a book."""
     if book[0] == "act":
-        return (form_of((book[1:],)) if standing == 0 else NONE, ())
+        return (act_form(book[1], book[2]) if standing == 0 else NONE, ())
     papers = tuple([left_paper(part, inner) for part, inner in still_open(book, standing)])
     return (left_form(book, standing, [paper[0] for paper in papers]), papers)
 

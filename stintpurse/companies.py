@@ -2,8 +2,8 @@
 
 from stintpurse.books import bookfault, field_fault, is_worded, parts_of, with_part
 from stintpurse.errors import BadBook, BadCompany
-from stintpurse.formed import form
-from stintpurse.forms import form_of, least_of
+from stintpurse.formed import act_form, form
+from stintpurse.forms import least_of
 from stintpurse.merging import beside_form, then_form
 
 OPEN = ("open",)
@@ -38,7 +38,7 @@ def put(company, book):
 
 def shape_beside(shape, pair):
     """The least purse of what has a shape, that is a form, beside an act that is that pair."""
-    return least_of(beside_form((shape, form_of((pair,)))))
+    return least_of(beside_form((shape, act_form(pair[0], pair[1]))))
 
 
 def least_beside(book, pair):
@@ -48,9 +48,9 @@ def least_beside(book, pair):
 
 def least_ahead(book, pair):
     """The least purse of an act that is that pair, then the book."""
-    return least_of(then_form((form_of((pair,)), form(book))))
+    return least_of(then_form((act_form(pair[0], pair[1]), form(book))))
 
 
 def least_after(book, pair):
     """The least purse of the book, then an act that is that pair."""
-    return least_of(then_form((form(book), form_of((pair,)))))
+    return least_of(then_form((form(book), act_form(pair[0], pair[1]))))

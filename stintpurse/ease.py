@@ -2,8 +2,8 @@
 
 from stintpurse.books import is_copied, part_at, parts_of, places_of
 from stintpurse.errors import NoPlace
-from stintpurse.formed import form, form_with
-from stintpurse.forms import form_of, least_of
+from stintpurse.formed import act_form, form, form_with
+from stintpurse.forms import least_of
 
 
 class Around:
@@ -26,7 +26,7 @@ class Around:
 
     def least_with(self, more):
         """The least purse of the whole book with need and leave of the act so much greater."""
-        made = form_of(((self.need + more, self.leave + more),))
+        made = act_form(self.need + more, self.leave + more)
         for part, number, forms in self.levels[::-1]:
             made = form_with(part, forms[:number] + (made,) + forms[number + 1:])
         return least_of(made)
