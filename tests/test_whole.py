@@ -11,18 +11,18 @@ from stintpurse.books import acts_in, gain_of, turned_book
 from stintpurse.bounds import BOOKS, DEEDS
 from stintpurse.companies import put
 from stintpurse.desk import Desk
-from stintpurse.errors import BadBook, Doomed, StintError
+from stintpurse.errors import BadBook, Doomed, StintError, TooMany
 from stintpurse.formed import form, least
 from stintpurse.forms import least_of, turned_form
-from stintpurse.fronts import row_at, rows_through
+from stintpurse.fronts import fronts, row_at, rows_through
 from stintpurse.going import stretch
 from stintpurse.leads import leading
 from stintpurse.orders import order_least
 from stintpurse.partings import parting, serves
 from stintpurse.plans import spelled
-from stintpurse.rests import rest
+from stintpurse.rests import got, rest
 from stintpurse.safety import greatest, lacks, reached, safe_ways
-from stintpurse.standings import act_at, begin, ways
+from stintpurse.standings import act_at, begin, gone, ways
 from stintpurse.texts import book_text, form_text, read_book, read_form
 
 
@@ -140,6 +140,62 @@ class ToTheLastAct(unittest.TestCase):
                 bench.go(chance.choice(safe_ways(bench.book(), bench.standing(), bench.holds())))
             gifts = sum(things[0] for word, things in bench.deeds() if word == "gift")
             self.assertEqual(bench.holds(), least(book) + 4 + gifts + gain_of(bench.book()))
+
+
+class ByAllFronts(unittest.TestCase):
+    """Books of more acts, gone through by all their standings."""
+
+    def books(self):
+        for book in chance_books(400, 1018, fewest=8, deep=4, copies=(1, 2, 3, 5)):
+            try:
+                yield book, fronts(book, most=150)
+            except TooMany:
+                continue
+
+    def steps(self, book, told):
+        """Of each front, by its number, (way, pair, number behind it) of all ways on."""
+        numbers = {standing: number for number, standing in enumerate(told)}
+        return [
+            [(way, act_at(book, way), numbers[gone(book, standing, way)]) for way in ways(book, standing)]
+            for standing in told
+        ]
+
+    def wanted_from(self, steps, gains, first):
+        """{number: the least purse with which some acts lead from the first front to that one}."""
+        wanted = {first: 0}
+        for here in range(first, len(steps)):
+            for _, pair, behind in steps[here] if here in wanted else ():
+                asked = max(wanted[here], pair[0] - gains[here] + gains[first])
+                wanted[behind] = min(asked, wanted.get(behind, asked))
+        return wanted
+
+    def test_safe_greatest_and_stretches(self):
+        chance = random.Random(1019)
+        seen = 0
+        for book, told in self.books():
+            steps = self.steps(book, told)
+            gains = [got(book, standing) for standing in told]
+            for first in chance.sample(range(len(told)), min(4, len(told))):
+                standing = told[first]
+                wanted = self.wanted_from(steps, gains, first)
+                need = wanted[len(told) - 1]
+                self.assertEqual(lacks(book, standing, 0), need)
+                for purse in (0, need, need + 3):
+                    most = max(gains[here] for here in wanted if wanted[here] <= purse) - gains[first]
+                    far, held = reached(book, standing, purse)
+                    self.assertEqual((held, greatest(book, standing, purse)), (purse + most, purse + most))
+                    self.assertLessEqual(wanted[told.index(far)], purse)
+                above = [wanted[here] for here in wanted if gains[here] > gains[first]]
+                one = stretch(book, standing, ())
+                self.assertEqual(one is None, not above)
+                if one is not None:
+                    after = told.index(one[2])
+                    self.assertEqual((one[0], wanted[after]), (min(above), min(above)))
+                    self.assertEqual(one[1] - one[0], gains[after] - gains[first])
+                    best = max(gains[here] for here in wanted if wanted[here] <= one[0])
+                    self.assertEqual(best, gains[after])
+                seen += 1
+        self.assertGreater(seen, 400)
 
 
 class Promises(unittest.TestCase):
